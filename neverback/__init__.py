@@ -1,0 +1,1 @@
+"""Walks that never come to a place twice."""

@@ -1,0 +1,26 @@
+"""What several tests ask of an answer and of the lists that are handed in."""
+
+SQUARES = 0
+TRIANGLES = 1
+HONEYCOMB = 2
+KINDS = (SQUARES, TRIANGLES, HONEYCOMB)
+HOW_MANY_STEPS = {SQUARES: 4, TRIANGLES: 6, HONEYCOMB: 3}
+GREATEST_KIND = 2**31 - 1
+
+
+def same_answer(test, answer, wanted):
+    """Equal, and of the promised kinds: True would be equal to 1, but is no whole number here."""
+    test.assertIs(type(answer), list)
+    for number in answer:
+        test.assertIs(type(number), int)
+    test.assertEqual(answer, wanted)
+
+
+class Untouched(list):
+    """A list that fails at every change, also at one that would be taken back."""
+
+    def refuse(self, *args, **kwargs):
+        raise AssertionError("what is handed in was changed")
+
+    append = extend = insert = pop = remove = clear = sort = reverse = refuse
+    __setitem__ = __delitem__ = __iadd__ = __imul__ = refuse
