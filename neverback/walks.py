@@ -1,9 +1,11 @@
-"""The calls: each takes a walk, step by step, and answers a list of whole numbers."""
+"""The calls: each takes a walk, step by step, or how many steps it has, and answers a list of whole numbers."""
 
 OUT_OF_RANGE = -2
 NOT_A_STEP = -3
+NONE_AFTER = -5
 
 MOST_STEPS = 4096
+MOST_STEPS_COUNTED = 16
 
 HONEYCOMB = 2
 
@@ -16,8 +18,8 @@ MOVES = (
 )
 
 
-def in_range(kind, steps):
-    return 0 <= kind < len(MOVES) and len(steps) <= MOST_STEPS
+def is_kind(kind):
+    return 0 <= kind < len(MOVES)
 
 
 def are_steps(kind, steps):
@@ -30,7 +32,7 @@ def are_steps(kind, steps):
 def refusal(kind, steps):
     """The number that refuses the walk, or 0 if there is no such number."""
     # The range comes first: without a kind there is nothing to hold the steps against.
-    if not in_range(kind, steps):
+    if not is_kind(kind) or len(steps) > MOST_STEPS:
         return OUT_OF_RANGE
     if not are_steps(kind, steps):
         return NOT_A_STEP
@@ -61,6 +63,62 @@ def all_differ(places):
     return len(set(places)) == len(places)
 
 
+def how_many_differ(places):
+    """How many places, from the first on, there are until one comes again."""
+    seen = {}
+    for place in places:
+        if place in seen:
+            break
+        seen[place] = True
+    return len(seen)
+
+
+def open_steps(kind, places, least):
+    """The steps from number least on that lead from the last place to none of these places."""
+    last = places[-1]
+    return [step for step in range(least, len(MOVES[kind])) if place_after(kind, last, step) not in places]
+
+
+def first_true(kind, n, start, least):
+    """The first true walk of n steps that begins with start and then step least, or comes after that; or None."""
+    walk = list(start)
+    places = places_of(kind, walk)
+    while len(walk) < n:
+        found = open_steps(kind, places, least)
+        if found != []:
+            walk.append(found[0])
+            places.append(place_after(kind, places[-1], found[0]))
+            least = 0
+        elif walk != []:
+            # A dead end: the step that led here has to change.
+            places.pop()
+            least = walk.pop() + 1
+        else:
+            return None
+    return walk
+
+
+def walk_after(kind, steps):
+    """The first true walk of as many steps that comes after these, or None."""
+    n = len(steps)
+    # Steps behind a place that comes again can't mend it: the one that leads there is the last that may change.
+    at = min(how_many_differ(places_of(kind, steps)), n) - 1
+    if at < 0:
+        return None
+    return first_true(kind, n, steps[:at], steps[at] + 1)
+
+
+def ways_on(kind, places, left):
+    """How many ways there are to go on from the last place for so many steps, to new places alone."""
+    if left == 0:
+        return 1
+    ways = 0
+    for step in open_steps(kind, places, 0):
+        place = place_after(kind, places[-1], step)
+        ways = ways + ways_on(kind, places + [place], left - 1)
+    return ways
+
+
 def is_true(kind, steps):
     """[1] if the walk is never at a place twice, else [0]; or a refusal."""
     refused = refusal(kind, steps)
@@ -76,3 +134,21 @@ def end(kind, steps):
         return [refused]
     last = places_of(kind, steps)[-1]
     return [0, last[0], last[1]]
+
+
+def next_walk(kind, steps):
+    """[0, then the steps of the next true walk of as many steps], these may be true or not; or a refusal."""
+    refused = refusal(kind, steps)
+    if refused != 0:
+        return [refused]
+    walk = walk_after(kind, steps)
+    if walk is None:
+        return [NONE_AFTER]
+    return [0] + walk
+
+
+def count(kind, n):
+    """[0, how many true walks of n steps there are]; or a refusal."""
+    if not is_kind(kind) or not 0 <= n <= MOST_STEPS_COUNTED:
+        return [OUT_OF_RANGE]
+    return [0, ways_on(kind, [(0, 0)], n)]
