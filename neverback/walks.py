@@ -6,7 +6,9 @@ NONE_AFTER = -5
 
 MOST_STEPS = 4096
 MOST_STEPS_COUNTED = 16
+LEAST_STEPS_OF_RINGS = 3
 
+SQUARES = 0
 HONEYCOMB = 2
 
 # By kind, then by the step's number: what is added to x and to y.
@@ -108,15 +110,39 @@ def walk_after(kind, steps):
     return first_true(kind, n, steps[:at], steps[at] + 1)
 
 
-def ways_on(kind, places, left):
-    """How many ways there are to go on from the last place for so many steps, to new places alone."""
+def may_be_counted(kind, n, least):
+    return is_kind(kind) and least <= n <= MOST_STEPS_COUNTED
+
+
+def sum_on(kind, places, left, worth):
+    """The sum of what each way is worth that goes on from the last place for so many steps, to new places alone."""
     if left == 0:
-        return 1
-    ways = 0
+        return worth(places)
+    total = 0
     for step in open_steps(kind, places, 0):
         place = place_after(kind, places[-1], step)
-        ways = ways + ways_on(kind, places + [place], left - 1)
-    return ways
+        total = total + sum_on(kind, places + [place], left - 1, worth)
+    return total
+
+
+def sum_of_walks(kind, n, worth):
+    """The sum of worth(places) over the places of all true walks of n steps."""
+    return sum_on(kind, [(0, 0)], n, worth)
+
+
+def ways_home(kind, places):
+    """How many steps lead from the last place to the first."""
+    last = places[-1]
+    return len([step for step in range(len(MOVES[kind])) if place_after(kind, last, step) == places[0]])
+
+
+def is_bridge(places):
+    """Whether these places of a true walk are those of a bridge."""
+    greatest = places[-1][0]
+    for place in places[1:]:
+        if not 0 < place[0] <= greatest:
+            return False
+    return True
 
 
 def is_true(kind, steps):
@@ -149,6 +175,21 @@ def next_walk(kind, steps):
 
 def count(kind, n):
     """[0, how many true walks of n steps there are]; or a refusal."""
-    if not is_kind(kind) or not 0 <= n <= MOST_STEPS_COUNTED:
+    if not may_be_counted(kind, n, 0):
         return [OUT_OF_RANGE]
-    return [0, ways_on(kind, [(0, 0)], n)]
+    return [0, sum_of_walks(kind, n, lambda places: 1)]
+
+
+def rings(kind, n):
+    """[0, how many rings of n steps there are]; or a refusal."""
+    if not may_be_counted(kind, n, LEAST_STEPS_OF_RINGS):
+        return [OUT_OF_RANGE]
+    # A ring without its last step is a true walk, and one that is a step away from where it began.
+    return [0, sum_of_walks(kind, n - 1, lambda places: ways_home(kind, places))]
+
+
+def bridges(n):
+    """[0, how many bridges of n steps there are]; or a refusal."""
+    if not may_be_counted(SQUARES, n, 0):
+        return [OUT_OF_RANGE]
+    return [0, sum_of_walks(SQUARES, n, lambda places: 1 if is_bridge(places) else 0)]

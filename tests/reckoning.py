@@ -1,4 +1,4 @@
-"""The true walks as the tests reckon them, with nothing drawn from the program."""
+"""The walks as the tests reckon them, with nothing drawn from the program."""
 
 import itertools
 
@@ -27,6 +27,26 @@ def never_twice(kind, steps):
     return True
 
 
+def places_gone(kind, steps):
+    """The places of the walk, the first one too."""
+    gone = [(0, 0)]
+    for step in steps:
+        gone.append(neighbours(kind, *gone[-1])[step])
+    return gone
+
+
+def comes_home(kind, steps):
+    """Whether it is a ring: at 0, 0 with the last step, at no place twice ahead of that."""
+    gone = places_gone(kind, steps)
+    return len(steps) >= 3 and gone[-1] == (0, 0) and never_twice(kind, steps[:-1])
+
+
+def stays_on_one_side(steps):
+    """Whether it is a bridge."""
+    across = [x for x, y in places_gone(SQUARES, steps)]
+    return never_twice(SQUARES, steps) and all(x > 0 for x in across[1:]) and max(across) == across[-1]
+
+
 def all_steps(kind, n):
     """All ways to write down n steps, true or not, in order."""
     return [list(steps) for steps in itertools.product(range(HOW_MANY_STEPS[kind]), repeat=n)]
@@ -35,3 +55,11 @@ def all_steps(kind, n):
 def true_walks(kind, n):
     """All true walks of n steps, in order."""
     return [steps for steps in all_steps(kind, n) if never_twice(kind, steps)]
+
+
+def all_rings(kind, n):
+    return [steps for steps in all_steps(kind, n) if comes_home(kind, steps)]
+
+
+def all_bridges(n):
+    return [steps for steps in all_steps(SQUARES, n) if stays_on_one_side(steps)]

@@ -1,11 +1,9 @@
 import unittest
 
-from answers import GREATEST_KIND, GREATEST_NUMBER, HONEYCOMB, KINDS, SQUARES, TRIANGLES, same_answer
+from answers import GREATEST_ASKED, HONEYCOMB, KINDS, KINDS_OUT_OF_RANGE, NUMBERS_ABOVE_16, SQUARES, TRIANGLES
+from answers import same_answer
 from neverback.walks import count
 from reckoning import true_walks
-
-# The greatest n that is asked of each kind.
-GREATEST_ASKED = {SQUARES: 7, TRIANGLES: 6, HONEYCOMB: 9}
 
 
 class Count(unittest.TestCase):
@@ -48,17 +46,17 @@ class Count(unittest.TestCase):
     def test_n_out_of_range(self):
         # The honeycomb first, and an end at the first wrong answer: to count the others' walks takes very long.
         for kind in (HONEYCOMB, SQUARES, TRIANGLES):
-            for n in (17, 18, 255, 4096, 2**31, GREATEST_NUMBER - 1, GREATEST_NUMBER):
+            for n in NUMBERS_ABOVE_16:
                 same_answer(self, count(kind, n), [-2])
 
     def test_kinds_out_of_range(self):
-        for kind in (3, 4, 255, GREATEST_KIND - 1, GREATEST_KIND):
+        for kind in KINDS_OUT_OF_RANGE:
             for n in (0, 1, 7, 16):
                 self.is_refused(kind, n)
 
     def test_kind_and_n_out_of_range(self):
-        for kind in (3, GREATEST_KIND):
-            for n in (17, GREATEST_NUMBER):
+        for kind in KINDS_OUT_OF_RANGE:
+            for n in NUMBERS_ABOVE_16:
                 self.is_refused(kind, n)
 
 

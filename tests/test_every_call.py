@@ -5,7 +5,7 @@ import io
 import unittest
 
 from answers import GREATEST_KIND, GREATEST_NUMBER, HONEYCOMB, SQUARES, TRIANGLES, Untouched, same_answer
-from neverback.walks import count, end, is_true, next_walk
+from neverback.walks import bridges, count, end, is_true, next_walk, rings
 
 SOME_WALKS = (
     (SQUARES, [0, 1, 2]),
@@ -27,7 +27,9 @@ SOME_NUMBERS = (
     (GREATEST_KIND, GREATEST_NUMBER),
 )
 WALK_CALLS = [(call, walk) for call in (is_true, end, next_walk) for walk in SOME_WALKS]
-SOME_CALLS = WALK_CALLS + [(count, numbers) for numbers in SOME_NUMBERS]
+NUMBER_CALLS = [(call, numbers) for call in (count, rings) for numbers in SOME_NUMBERS]
+BRIDGE_CALLS = [(bridges, (n,)) for n in (0, 3, 6, 17, GREATEST_NUMBER)]
+SOME_CALLS = WALK_CALLS + NUMBER_CALLS + BRIDGE_CALLS
 
 
 class Calls(unittest.TestCase):
@@ -36,6 +38,8 @@ class Calls(unittest.TestCase):
         same_answer(self, end(kind=1, steps=[4, 5]), [0, 1, -2])
         same_answer(self, next_walk(kind=1, steps=[4, 5]), [0, 5, 0])
         same_answer(self, count(kind=1, n=2), [0, 30])
+        same_answer(self, rings(kind=1, n=3), [0, 12])
+        same_answer(self, bridges(n=2), [0, 3])
 
     def test_what_is_handed_in_stays(self):
         for call, (kind, steps) in WALK_CALLS:
