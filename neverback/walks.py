@@ -1,12 +1,13 @@
 """The calls: each takes a walk, step by step, or how many steps it has, and answers a list of whole numbers."""
 
 OUT_OF_RANGE = -2
-NOT_A_STEP = -3
+WRONG_STEPS = -3
 NONE_AFTER = -5
 
 MOST_STEPS = 4096
 MOST_STEPS_COUNTED = 16
 LEAST_STEPS_OF_RINGS = 3
+GREATEST_TURN = 7
 
 SQUARES = 0
 HONEYCOMB = 2
@@ -37,7 +38,7 @@ def refusal(kind, steps):
     if not is_kind(kind) or len(steps) > MOST_STEPS:
         return OUT_OF_RANGE
     if not are_steps(kind, steps):
-        return NOT_A_STEP
+        return WRONG_STEPS
     return 0
 
 
@@ -145,6 +146,27 @@ def is_bridge(places):
     return True
 
 
+def square_to_end(places):
+    """The square of how far the last place is from 0, 0."""
+    last = places[-1]
+    return last[0] * last[0] + last[1] * last[1]
+
+
+def turned_step(step, how):
+    # Turns from 4 on go round the other way: they turn the walk over too.
+    return (step + how if how < 4 else how - step) % 4
+
+
+def turn_refusal(at, how, steps):
+    """The number that refuses to turn the walk, or 0 if there is no such number."""
+    if not 0 <= at < len(steps) or not 0 <= how <= GREATEST_TURN:
+        return OUT_OF_RANGE
+    refused = refusal(SQUARES, steps)
+    if refused != 0:
+        return refused
+    return 0 if all_differ(places_of(SQUARES, steps)) else WRONG_STEPS
+
+
 def is_true(kind, steps):
     """[1] if the walk is never at a place twice, else [0]; or a refusal."""
     refused = refusal(kind, steps)
@@ -193,3 +215,19 @@ def bridges(n):
     if not may_be_counted(SQUARES, n, 0):
         return [OUT_OF_RANGE]
     return [0, sum_of_walks(SQUARES, n, lambda places: 1 if is_bridge(places) else 0)]
+
+
+def spread(n):
+    """[0, the sum of x x + y y of the ends of all true walks of n steps on squares]; or a refusal."""
+    if not may_be_counted(SQUARES, n, 0):
+        return [OUT_OF_RANGE]
+    return [0, sum_of_walks(SQUARES, n, square_to_end)]
+
+
+def turn(at, turn, steps):
+    """[1 if the walk is true with its steps from number at on turned, else 0, then its steps]; or a refusal."""
+    refused = turn_refusal(at, turn, steps)
+    if refused != 0:
+        return [refused]
+    walk = steps[:at] + [turned_step(step, turn) for step in steps[at:]]
+    return is_true(SQUARES, walk) + walk

@@ -63,3 +63,9 @@ def all_rings(kind, n):
 
 def all_bridges(n):
     return [steps for steps in all_steps(SQUARES, n) if stays_on_one_side(steps)]
+
+
+def spread_of(n):
+    """The sum of the squares of how far the true walks of n steps on squares go."""
+    ends = [places_gone(SQUARES, steps)[-1] for steps in true_walks(SQUARES, n)]
+    return sum(x**2 + y**2 for x, y in ends)

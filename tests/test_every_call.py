@@ -1,11 +1,11 @@
-"""What holds for every call: the arguments' names, and that nothing is changed, kept or printed."""
+"""What holds for every call: that nothing is changed, kept or printed."""
 
 import contextlib
 import io
 import unittest
 
 from answers import GREATEST_KIND, GREATEST_NUMBER, HONEYCOMB, SQUARES, TRIANGLES, Untouched, same_answer
-from neverback.walks import bridges, count, end, is_true, next_walk, rings
+from neverback.walks import bridges, count, end, is_true, next_walk, rings, spread, turn
 
 SOME_WALKS = (
     (SQUARES, [0, 1, 2]),
@@ -18,6 +18,18 @@ SOME_WALKS = (
     (HONEYCOMB, [0, 3]),
     (3, [0]),
 )
+SOME_TURNS = (
+    (0, 0, [0, 1, 2]),
+    (0, 5, [0, 1, 2]),
+    (1, 1, [0, 1, 2]),
+    (3, 6, [3, 3, 0, 0]),
+    (3, 2, [3, 3, 0, 0]),
+    (0, 3, [2]),
+    (0, 0, []),
+    (1, 8, [0, 0]),
+    (0, 1, [0, 4]),
+    (0, 1, [0, 2]),
+)
 SOME_NUMBERS = (
     (SQUARES, 5),
     (SQUARES, 0),
@@ -26,30 +38,23 @@ SOME_NUMBERS = (
     (HONEYCOMB, 17),
     (GREATEST_KIND, GREATEST_NUMBER),
 )
-WALK_CALLS = [(call, walk) for call in (is_true, end, next_walk) for walk in SOME_WALKS]
+STEP_CALLS = [(call, walk) for call in (is_true, end, next_walk) for walk in SOME_WALKS]
+STEP_CALLS += [(turn, arguments) for arguments in SOME_TURNS]
 NUMBER_CALLS = [(call, numbers) for call in (count, rings) for numbers in SOME_NUMBERS]
-BRIDGE_CALLS = [(bridges, (n,)) for n in (0, 3, 6, 17, GREATEST_NUMBER)]
-SOME_CALLS = WALK_CALLS + NUMBER_CALLS + BRIDGE_CALLS
+NUMBER_CALLS += [(call, (n,)) for call in (bridges, spread) for n in (0, 3, 6, 17, GREATEST_NUMBER)]
+SOME_CALLS = STEP_CALLS + NUMBER_CALLS
 
 
 class Calls(unittest.TestCase):
-    def test_names_of_the_arguments(self):
-        same_answer(self, is_true(kind=1, steps=[4, 5]), [1])
-        same_answer(self, end(kind=1, steps=[4, 5]), [0, 1, -2])
-        same_answer(self, next_walk(kind=1, steps=[4, 5]), [0, 5, 0])
-        same_answer(self, count(kind=1, n=2), [0, 30])
-        same_answer(self, rings(kind=1, n=3), [0, 12])
-        same_answer(self, bridges(n=2), [0, 3])
-
     def test_what_is_handed_in_stays(self):
-        for call, (kind, steps) in WALK_CALLS:
+        for call, (*numbers, steps) in STEP_CALLS:
             handed = Untouched(steps)
-            call(kind, handed)
+            call(*numbers, handed)
             self.assertEqual(handed, steps)
 
     def test_what_is_given_back_is_another_list(self):
-        for call, (kind, steps) in WALK_CALLS:
-            self.assertIsNot(call(kind, steps), steps)
+        for call, (*numbers, steps) in STEP_CALLS:
+            self.assertIsNot(call(*numbers, steps), steps)
 
     def test_a_second_call_answers_as_the_first(self):
         first = [call(*arguments) for call, arguments in SOME_CALLS]
@@ -69,10 +74,12 @@ class Calls(unittest.TestCase):
         same_answer(self, is_true(SQUARES, steps), [1])
         same_answer(self, end(SQUARES, steps), [0, 0, 1])
         same_answer(self, next_walk(SQUARES, steps), [0, 0, 3, 0])
+        same_answer(self, turn(2, 3, steps), [1, 0, 1, 1])
         steps.append(3)
         same_answer(self, is_true(SQUARES, steps), [0])
         same_answer(self, end(SQUARES, steps), [0, 0, 0])
         same_answer(self, next_walk(SQUARES, steps), [0, 0, 3, 0, 0])
+        same_answer(self, turn(2, 3, steps), [-3])
 
     def test_nothing_is_printed(self):
         for stream in (contextlib.redirect_stdout, contextlib.redirect_stderr):
